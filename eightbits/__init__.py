@@ -1,0 +1,1 @@
+"""A processor of eight bits, run over its memory."""
