@@ -3,11 +3,15 @@
 MEMORY_SIZE = 65536
 BYTE_SIZE = 256
 FIRST_S = 0xFD
+STACK_PLACE = 0x100
+EDGE_PLACE = 0xFFFA
 RESET_PLACE = 0xFFFC
+LINE_PLACE = 0xFFFE
 
 BIT_N = 128
 BIT_V = 64
 BIT_TOLD = 32
+BIT_BRK = 16
 BIT_D = 8
 BIT_I = 4
 BIT_Z = 2
@@ -22,6 +26,9 @@ class Machine:
     """One processor with its memory; a new one is as init leaves it."""
 
     def __init__(self):
+        self.init()
+
+    def init(self):
         self.a = 0
         self.x = 0
         self.y = 0
@@ -41,6 +48,10 @@ class Machine:
         behind = (place + 1) % MEMORY_SIZE
         return self.memory[place] + BYTE_SIZE * self.memory[behind]
 
+    def word_within_256(self, place):
+        behind = place - place % BYTE_SIZE + (place + 1) % BYTE_SIZE
+        return self.memory[place] + BYTE_SIZE * self.memory[behind]
+
     def put_bytes(self, at, row):
         for k, byte in enumerate(row):
             self.memory[at + k] = byte
@@ -48,8 +59,29 @@ class Machine:
     def get_bytes(self, at, n):
         return self.memory[at:at + n]
 
+    def push(self, byte):
+        self.memory[STACK_PLACE + self.s] = byte
+        self.s = (self.s - 1) % BYTE_SIZE
+
+    def pull(self):
+        self.s = (self.s + 1) % BYTE_SIZE
+        return self.memory[STACK_PLACE + self.s]
+
+    def push_word(self, word):
+        self.push(word // BYTE_SIZE)
+        self.push(word % BYTE_SIZE)
+
+    def pull_word(self):
+        lower = self.pull()
+        upper = self.pull()
+        return lower + BYTE_SIZE * upper
+
+    def set_zn(self, result):
+        self.flag_z = 1 if result == 0 else 0
+        self.flag_n = bit_of(result, BIT_N)
+
     def flags_byte(self):
-        # Bits 32 and 16 are no flags: the one is always told as 1, the other as 0.
+        # Bits 32 and 16 are no flags: the one is always told as 1, the other as 0 but where BRK and PHP add it.
         return (
             BIT_N * self.flag_n
             + BIT_V * self.flag_v
@@ -87,3 +119,16 @@ class Machine:
         self.flag_d = 0
         self.pc = self.word_at(RESET_PLACE)
         self.edge_came = False
+
+    def signal(self, line, edge):
+        self.line_low = line != 0
+        # An edge stays until a step or reset takes it: a later signal without one doesn't.
+        if edge != 0:
+            self.edge_came = True
+
+    def interrupt(self, place, return_place, bit):
+        """Goes on by the word at a place; the flags are pushed with one bit more, which may be 0."""
+        self.push_word(return_place)
+        self.push(self.flags_byte() + bit)
+        self.flag_i = 1
+        self.pc = self.word_at(place)

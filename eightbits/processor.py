@@ -1,15 +1,24 @@
 """The calls on one processor: read from a list of whole numbers, answered in another."""
 
 from eightbits.machine import MEMORY_SIZE, Machine
+from eightbits.showing import shown
+from eightbits.stepping import make_steps
 
 CALL_PUT = 1
 CALL_GET = 2
 CALL_SET = 3
 CALL_REGISTERS = 4
 CALL_RESET = 5
+CALL_SIGNAL = 6
+CALL_RUN = 7
+CALL_SHOW = 8
+CALL_INIT = 9
 
 DONE = 0
+CUT_SHORT = 1
 REFUSED = -1
+
+MOST_STEPS = 1000000000
 
 
 class UnknownCall(ValueError):
@@ -75,6 +84,33 @@ def answer_reset(machine):
     return [DONE]
 
 
+def answer_signal(machine, reader):
+    line = reader.take_number()
+    edge = reader.take_number()
+    machine.signal(line, edge)
+    return [DONE]
+
+
+def answer_run(machine, reader):
+    n = reader.take_number()
+    if n < 0 or n > MOST_STEPS:
+        return [REFUSED]
+    made = make_steps(machine, n)
+    return [DONE if made == n else CUT_SHORT, made]
+
+
+def answer_show(machine, reader):
+    at = reader.take_number()
+    if at < 0 or at >= MEMORY_SIZE:
+        return [REFUSED]
+    return shown(machine, at)
+
+
+def answer_init(machine):
+    machine.init()
+    return [DONE]
+
+
 def answer_call(machine, reader):
     call = reader.take_number()
     if call == CALL_PUT:
@@ -87,6 +123,14 @@ def answer_call(machine, reader):
         return answer_registers(machine)
     if call == CALL_RESET:
         return answer_reset(machine)
+    if call == CALL_SIGNAL:
+        return answer_signal(machine, reader)
+    if call == CALL_RUN:
+        return answer_run(machine, reader)
+    if call == CALL_SHOW:
+        return answer_show(machine, reader)
+    if call == CALL_INIT:
+        return answer_init(machine)
     raise UnknownCall(f"no call has the number {call}")
 
 

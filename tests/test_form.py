@@ -24,10 +24,63 @@ UNUSED_NODES = (
     ast.Await, ast.AsyncFunctionDef, ast.AsyncFor, ast.AsyncWith, ast.NamedExpr, ast.Starred, ast.Div,
     ast.SetComp, ast.DictComp, ast.GeneratorExp, ast.Import,
 )
+UNUSED_NAMES = set("""
+    register mro elements open input version_info with_traceback add_note attrgetter breakpoint builtins compile
+    copyright credits delattr dir eval exec exit gc getattr globals hasattr help id importlib license locals
+    methodcaller os quit setattr super type vars sys chr
+""".split())
+METHODS_OF_PYTHONS_OWN = set("""
+    append clear copy count endswith extend find get index insert isalnum isalpha isdigit islower isspace isupper
+    items join keys ljust lower lstrip partition pop remove replace reverse rfind rjust rpartition rsplit rstrip
+    setdefault split splitlines startswith strip update upper values zfill bit_length
+""".split())
+VALUES_OF_PYTHONS_OWN = {name for kind in (int, str, list, dict, set, bytes, tuple) for name in dir(kind)}
+DOUBLE_UNDERSCORED = ("__init__", "__eq__", "__repr__", "__str__", "__len__")
+
+
+def tree_of(path):
+    return ast.parse(path.read_text(encoding="utf-8"))
 
 
 def nodes_of(path):
-    return list(ast.walk(ast.parse(path.read_text(encoding="utf-8"))))
+    return list(ast.walk(tree_of(path)))
+
+
+def own_methods():
+    return {
+        item.name for path in FILES for node in nodes_of(path) if isinstance(node, ast.ClassDef)
+        for item in node.body if isinstance(item, ast.FunctionDef)
+    }
+
+
+def names_in(node):
+    """Each name that the node itself binds or reads."""
+    if isinstance(node, ast.Name):
+        return [node.id]
+    if isinstance(node, ast.arg):
+        return [node.arg]
+    if isinstance(node, ast.Attribute):
+        return [node.attr]
+    if isinstance(node, (ast.FunctionDef, ast.ClassDef)):
+        return [node.name]
+    return []
+
+
+def is_plain(value, functions, within=False):
+    """Whether a file's top may hold it: numbers, texts, and rows of these and of functions defined above."""
+    if isinstance(value, ast.Constant):
+        return value.value is None or isinstance(value.value, (int, str))
+    if isinstance(value, ast.UnaryOp):
+        return isinstance(value.op, ast.USub) and is_plain(value.operand, functions)
+    if isinstance(value, ast.Name):
+        return within and value.id in functions
+    if isinstance(value, ast.Tuple):
+        return all(is_plain(part, functions, True) for part in value.elts)
+    if isinstance(value, ast.List) and not within:
+        return all(is_plain(part, functions, True) for part in value.elts)
+    if isinstance(value, ast.Dict) and not within:
+        return all(is_plain(part, functions, True) for part in value.keys + value.values)
+    return False
 
 
 class FormTest(unittest.TestCase):
@@ -69,6 +122,65 @@ class FormTest(unittest.TestCase):
                     self.assertIn(node.id, ALLOWED_BUILTINS, path.name)
                 if isinstance(node, ast.arg):
                     self.assertFalse(hasattr(builtins, node.arg), f"{path.name}: {node.arg}")
+
+    def test_plain_names(self):
+        for path in FILES:
+            for node in nodes_of(path):
+                for name in names_in(node):
+                    if name not in DOUBLE_UNDERSCORED:
+                        self.assertRegex(name, r"\A[A-Za-z][A-Za-z0-9_]*\Z", path.name)
+                    self.assertNotIn(name, UNUSED_NAMES, path.name)
+
+    def test_the_top_of_a_file(self):
+        for path in FILES:
+            bound = []
+            for node in tree_of(path).body:
+                if isinstance(node, ast.Assign):
+                    self.assertTrue(is_plain(node.value, bound), f"{path.name}: {node.lineno}")
+                    bound.append(node.targets[0].id)
+                elif isinstance(node, ast.ImportFrom):
+                    bound.extend(part.name for part in node.names)
+                elif isinstance(node, (ast.FunctionDef, ast.ClassDef)):
+                    bound.append(node.name)
+                else:
+                    self.assertIsInstance(node, ast.Expr, path.name)
+                    self.assertIsInstance(node.value.value, str, path.name)
+            self.assertEqual(sorted(bound), sorted(set(bound)), path.name)
+
+    def test_functions_and_assignments(self):
+        for path in FILES:
+            for node in nodes_of(path):
+                if isinstance(node, ast.FunctionDef):
+                    self.assertEqual(node.decorator_list, [], node.name)
+                    self.assertIsNone(node.args.vararg or node.args.kwarg, node.name)
+                    self.assertEqual(node.args.kwonlyargs + node.args.posonlyargs, [], node.name)
+                if isinstance(node, ast.Assign):
+                    self.assertEqual(len(node.targets), 1, path.name)
+                if isinstance(node, (ast.For, ast.While)):
+                    self.assertEqual(node.orelse, [], path.name)
+                if isinstance(node, ast.Compare) and isinstance(node.ops[0], (ast.Is, ast.IsNot)):
+                    self.assertIsInstance(node.comparators[0], ast.Constant, path.name)
+
+    def test_methods_and_values(self):
+        methods = own_methods()
+        for path in FILES:
+            nodes = nodes_of(path)
+            called = [node.func for node in nodes if isinstance(node, ast.Call)]
+            for node in nodes:
+                if not isinstance(node, ast.Attribute):
+                    continue
+                where = f"{path.name}: {node.lineno} {node.attr}"
+                if any(node is other for other in called):
+                    self.assertIn(node.attr, methods | METHODS_OF_PYTHONS_OWN, where)
+                else:
+                    self.assertNotIn(node.attr, methods, where)
+                    self.assertNotIn(node.attr, VALUES_OF_PYTHONS_OWN, where)
+
+    def test_no_text_has_the_sign_of_a_remainder(self):
+        for path in FILES:
+            for node in nodes_of(path):
+                if isinstance(node, ast.Constant) and isinstance(node.value, str):
+                    self.assertNotIn("%", node.value, path.name)
 
     def test_words_that_are_not_used(self):
         for path in FILES:

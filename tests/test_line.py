@@ -5,8 +5,8 @@ import io
 import unittest
 from unittest import mock
 
-from asking import DONE, NEW_SEVEN, REGISTERS, REFUSED, RESET
-from asking import ask, get, line, memory_after, put, refused_put, set_to
+from asking import DONE, INIT, NEW_SEVEN, REGISTERS, REFUSED, RESET
+from asking import ask, at_place, get, line, memory_after, put, refused_put, run, set_to, show, signal
 from eightbits.processor import UnknownCall, answers
 
 MIXED = line([
@@ -17,6 +17,15 @@ MIXED = line([
     RESET,
     REGISTERS,
     get(65536, 1),
+    put(0x1234, [0xA9, 0x77, 0x02]),
+    show(0x1234),
+    run(2),
+    signal(0, 1),
+    run(1),
+    run(-1),
+    show(-1),
+    INIT,
+    REGISTERS,
 ])
 MIXED_TOLD = [
     1, 0,
@@ -26,6 +35,15 @@ MIXED_TOLD = [
     1, 0,
     8, 0, 1, 2, 3, 1, 0xE7, 0x34, 0x12,
     1, -1,
+    1, 0,
+    13, 2, 76, 68, 65, 32, 35, 36, 55, 55, 0, 0, 0, 0,
+    2, 1, 1,
+    1, 0,
+    2, 0, 1,
+    1, -1,
+    1, -1,
+    1, 0,
+    8, 0, 0, 0, 0, 0xFD, 0x24, 0, 0,
 ]
 
 
@@ -52,6 +70,14 @@ class AnswersTest(unittest.TestCase):
         self.assertEqual(answers(line([set_to()])), [1, 0])
         self.assertEqual(answers(REGISTERS), [8, 0] + NEW_SEVEN)
         self.assertEqual(answers(RESET), [1, 0])
+        self.assertEqual(answers(signal(1, 1)), [1, 0])
+        self.assertEqual(answers(run(0)), [2, 0, 0])
+        self.assertEqual(answers(run(3)), [2, 0, 3])
+        self.assertEqual(answers(line([put(0, [2]), run(3)])), [1, 0, 2, 1, 0])
+        self.assertEqual(answers(run(-1)), [1, -1])
+        self.assertEqual(answers(show(0)), [13, 1, 66, 82, 75, 0, 0, 0, 0, 0, 0, 0, 0, 0])
+        self.assertEqual(answers(show(-1)), [1, -1])
+        self.assertEqual(answers(INIT), [1, 0])
 
     def test_several_calls_in_one_list(self):
         self.assertEqual(answers(MIXED), MIXED_TOLD)
@@ -85,6 +111,7 @@ class BeginningTest(unittest.TestCase):
     def test_a_new_list_begins_anew(self):
         ask(put(0, [255] * 29000), set_to(1, 2, 3, 4, 0xFF, 6, 7))
         ask(put(36536, [255] * 29000), RESET)
+        ask(put(0x200, [0xA9, 0x99, 0x48, 0xF8]), at_place(0x200, s=9), run(3), signal(1, 1), run(1), signal(1, 1))
         self.assertEqual(ask(REGISTERS), [[0] + NEW_SEVEN])
         self.assertEqual(memory_after(), [0] * 65536)
 

@@ -4,7 +4,6 @@ import unittest
 
 from asking import DONE, NEW_SEVEN, REGISTERS, RESET
 from asking import ask, memory_after, put, set_to
-from eightbits.machine import Machine
 
 BIT_N, BIT_V, BIT_TOLD, BIT_BRK, BIT_D, BIT_I, BIT_Z, BIT_C = 128, 64, 32, 16, 8, 4, 2, 1
 FLAG_BITS = (BIT_N, BIT_V, BIT_D, BIT_I, BIT_Z, BIT_C)
@@ -134,24 +133,6 @@ class ResetTest(unittest.TestCase):
     def test_the_memory_stays(self):
         row = [k % 251 for k in range(29000)]
         self.assertEqual(memory_after(put(0, row), set_to(s=1), RESET), row + [0] * 36536)
-
-
-class OutsideTest(unittest.TestCase):
-    """No call of this stage tells of the line and the edge: the processor itself is asked."""
-
-    def test_at_the_beginning(self):
-        machine = Machine()
-        self.assertFalse(machine.line_low)
-        self.assertFalse(machine.edge_came)
-
-    def test_reset_forgets_the_edge_and_leaves_the_line(self):
-        for low in (False, True):
-            machine = Machine()
-            machine.line_low = low
-            machine.edge_came = True
-            machine.reset()
-            self.assertFalse(machine.edge_came)
-            self.assertEqual(machine.line_low, low)
 
 
 if __name__ == "__main__":
